@@ -112,3 +112,17 @@ func TestD3Get(t *testing.T) {
 	checkGet(t, b, -4, bits(-4, 8, 8), true)
 	checkGet(t, b, 3, api.Value{}, false) // but in spare room
 }
+
+func TestD3At(t *testing.T) {
+	for _, x := range []struct{ number, want int }{{9, 0}, {2, 1}, {0, 3}, {-4, 4}, {1, -1}, {math.MaxInt, -1}, {3, -1}} {
+		b := of(bits(9, 1), bits(2, 2), bits(9, 3), bits(0), bits(-4, 8, 8))
+		checkOnlyRead(t, b, func(b api.Body) { // 3 is in its spare room
+			if at := body.At(b, x.number); at != x.want {
+				t.Errorf("At of %d is %d, not %d", x.number, at, x.want)
+			}
+		})
+		if at := body.At(api.Body{}, x.number); at != -1 {
+			t.Errorf("At of %d in no body is %d", x.number, at)
+		}
+	}
+}

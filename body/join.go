@@ -21,7 +21,7 @@ func Join(f api.File, msg int, a, b api.Body) (api.Body, api.Errno) {
 // joined puts two bodies together that are right, and the program's own: it changes their lists, and keeps them.
 func joined(f api.File, m api.Message, a, b api.Body) api.Body {
 	for _, v := range b.Values {
-		if at := valueAt(a, v.Number); at >= 0 {
+		if at := At(a, v.Number); at >= 0 {
 			v = met(f, m.Fields[Field(m, v.Number)], a.Values[at], v)
 		}
 		a = put(m, a, v)

@@ -37,16 +37,16 @@ func written(f api.File, m api.Message, b api.Body) ([]byte, api.Errno) {
 
 // records answers those of a value of field x.
 func records(x api.Field, v api.Value, deeper writer) ([]api.Record, api.Errno) {
-	how, bits := How(x.Kind), bitsOf(x.Kind)
+	how, bits := How(x.Kind), Bits(x.Kind, v.Bits)
 	switch {
 	case x.Kind == api.Sub:
 		return subRecords(x, v.Subs, deeper)
 	case how == api.Sized:
 		return sized(x.Number, v.Bytes...), api.OK
 	case x.Many:
-		return sized(x.Number, wire.Packed(how, each(v.Bits, bits))), api.OK
+		return sized(x.Number, wire.Packed(how, bits)), api.OK
 	}
-	return []api.Record{{Number: x.Number, How: how, Bits: bits(v.Bits[0])}}, api.OK
+	return []api.Record{{Number: x.Number, How: how, Bits: bits[0]}}, api.OK
 }
 
 func subRecords(x api.Field, l []api.Body, deeper writer) ([]api.Record, api.Errno) {

@@ -47,3 +47,26 @@ func TestE1Numbers(t *testing.T) {
 	// None of the spare room.
 	checkNumbers(t, api.Message{Fields: []api.Field{{Number: 2}, {Number: 1}, {Number: 0}}[:2]}, 1, 2)
 }
+
+func TestE1Bits(t *testing.T) {
+	l := []uint64{0, 1, 2, 1<<63 - 1, 1 << 63, minus - 1, minus}
+	folded := []uint64{0, 2, 4, minus - 1, minus, 3, 1}
+	for kind := -1; kind < 12; kind++ {
+		want := l
+		if kind == api.Zig {
+			want = folded
+		}
+		handed := append(slices.Clone(l), 77)[:len(l)]
+		got := codec.Bits(kind, handed)
+		if !slices.Equal(got, want) {
+			t.Errorf("Bits(%d) = %d, not %d", kind, got, want)
+		}
+		if !slices.Equal(handed[:len(l)+1], append(slices.Clone(l), 77)) {
+			t.Errorf("what was handed in changed: %d", handed)
+		}
+		checkNew(t, got, handed)
+		if len(codec.Bits(kind, nil))+len(codec.Bits(kind, []uint64{})) != 0 {
+			t.Errorf("Bits(%d) of none are some", kind)
+		}
+	}
+}
