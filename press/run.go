@@ -15,10 +15,18 @@ func Run(l []api.Program, p int, x api.Body) ([]byte, api.Errno) {
 	if p < 0 || p >= len(l) {
 		return nil, api.ErrNone
 	}
-	return run(l, p, x, 1)
+	out, err := run(l, p, x, 1)
+	if err != api.OK {
+		return nil, err
+	}
+	// Only here, not in each Sub: any other error, wherever it stands, is told ahead, and with too much in a Sub all is too much.
+	if len(out) > api.MaxBytes {
+		return nil, api.ErrMuch
+	}
+	return out, api.OK
 }
 
-// A runner answers the bytes that program p makes of x.
+// A runner answers the bytes that program p makes of x; of too many of them some, that are too many still.
 type runner func(p int, x api.Body) ([]byte, api.Errno)
 
 // run answers what program p of l, which must be right, makes of x, which is that deep.
@@ -35,12 +43,11 @@ func run(l []api.Program, p int, x api.Body, depth int) ([]byte, api.Errno) {
 	if err != api.OK {
 		return nil, err
 	}
-	// Only now, as any other error is told ahead of this one.
-	if len(out)+len(rest) > api.MaxBytes {
-		return nil, api.ErrMuch
-	}
-	return append(out, rest...), api.OK
+	return enough(append(out, rest...)), api.OK
 }
+
+// enough answers b, or as much of it as tells that it is too much: the rest need not be copied on from Sub to Sub.
+func enough(b []byte) []byte { return b[:min(len(b), api.MaxBytes+1)] }
 
 // values answers what the steps make of x's values.
 func values(p api.Program, x api.Body, deeper runner) ([]byte, api.Errno) {

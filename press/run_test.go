@@ -2,6 +2,7 @@ package press_test
 
 import (
 	"bytes"
+	"fmt"
 	"math"
 	"math/rand"
 	"slices"
@@ -24,7 +25,7 @@ func checkRun(t *testing.T, l []api.Program, p int, x api.Body, want []byte, err
 	checkOnlyRead(t, x, func(x api.Body) {
 		got, gotErr := press.Run(l, p, x)
 		if gotErr != err || !bytes.Equal(got, want) {
-			t.Errorf("Run(%d, %+v) = %x, %d, not %x, %d", p, x, got, gotErr, want, err)
+			t.Errorf("Run(%d, %.2000s) = %.2000x, %d, not %.2000x, %d", p, fmt.Sprintf("%+v", x), got, gotErr, want, err)
 		}
 		checkNew(t, got, x, l)
 	})
@@ -302,14 +303,61 @@ func TestF2RunOfMuchIsToldLast(t *testing.T) {
 	fails(t, a, of(huge, subs(10, deep)), api.ErrDeep)
 	fails(t, a, of(huge, subs(13, of(), deep)), api.ErrDeep)
 	fails(t, a, withUnknown(of(huge), api.Record{}), api.ErrRange)
-	// But a Sub's own is told ahead of what comes behind it.
-	fails(t, a, of(subs(10, of(huge)), subs(13, deep)), api.ErrMuch)
-	fails(t, a, of(subs(13, of(huge), deep)), api.ErrMuch)
-	fails(t, a, of(subs(13, deep, of(huge))), api.ErrDeep)
-	fails(t, a, withUnknown(of(subs(10, of(huge))), api.Record{}), api.ErrMuch)
-	fails(t, a, of(subs(10, withUnknown(of(huge), api.Record{}))), api.ErrRange)
-	// Though no step ahead of it is to be seen in the end.
 	fails(t, a, of(huge, subs(13, withUnknown(of(), api.Record{How: 7}))), api.ErrKind)
+}
+
+// What is too much in a Sub, by whatever and however deep, is told behind all that is wrong elsewhere, too.
+func TestF2RunOfMuchInASubIsToldLast(t *testing.T) {
+	const a = 0
+	right := api.Record{Number: 99, How: api.Sized, Bytes: make([]byte, api.MaxBytes/2)}
+	deep := nested(10, api.MaxDeep, of())
+	for _, huge := range []api.Body{
+		of(texts(8, long(api.MaxBytes-2))),
+		of(texts(8, long(3*api.MaxBytes))),
+		of(texts(12, repeat(api.MaxBytes, "")...)),
+		of(bits(1, make([]uint64, api.MaxBytes)...)),
+		of(bits(11, make([]uint64, api.MaxBytes)...)),
+		withUnknown(of(), right, right),
+		of(subs(13, repeat(api.MaxBytes, of())...)),
+		of(subs(13, repeat(5, of(texts(8, long(api.MaxBytes/4))))...)),
+		of(subs(10, of(texts(8, long(api.MaxBytes))))),
+		nested(13, api.MaxDeep-1, of(texts(9, long(api.MaxBytes)))),
+	} {
+		fails(t, a, of(subs(10, huge)), api.ErrMuch)
+		fails(t, a, of(subs(13, of(), huge, of(), huge)), api.ErrMuch)
+		fails(t, a, withUnknown(of(subs(10, huge), bits(20, 1)), right), api.ErrMuch)
+		// What is too deep, of the same value, of a later one, and of another Sub's.
+		fails(t, a, of(subs(13, huge, deep)), api.ErrDeep)
+		fails(t, a, of(subs(13, deep, huge)), api.ErrDeep)
+		fails(t, a, of(subs(10, huge), subs(13, deep)), api.ErrDeep)
+		fails(t, a, of(subs(13, huge, huge), subs(22, of(), deep)), api.ErrDeep)
+		fails(t, a, of(subs(10, huge), subs(13, of(), of(subs(10, deep)))), api.ErrDeep)
+		for _, x := range []struct {
+			r   api.Record
+			err api.Errno
+		}{
+			{api.Record{Number: 3, How: 3}, api.ErrKind},
+			{api.Record{Number: 0}, api.ErrRange},
+			{api.Record{Number: 3, How: api.Sized, Bits: 1}, api.ErrFit},
+		} {
+			wrong := withUnknown(of(), right, x.r)
+			fails(t, a, withUnknown(of(subs(10, huge)), x.r), x.err)
+			fails(t, a, withUnknown(of(subs(10, huge)), right, right, x.r), x.err)
+			fails(t, a, of(subs(13, huge, wrong)), x.err)
+			fails(t, a, of(subs(10, huge), subs(22, wrong)), x.err)
+			fails(t, a, of(subs(13, huge, nested(10, api.MaxDeep-1, wrong))), x.err)
+			// The first one of those that are told ahead of it.
+			fails(t, a, withUnknown(of(subs(13, huge, wrong, deep)), api.Record{How: 7}), x.err)
+			fails(t, a, withUnknown(of(subs(13, huge, deep, wrong)), x.r), api.ErrDeep)
+		}
+		// What is wrong with the programs, or that there is none, is told ahead of it anyway.
+		checkRun(t, programs, 2, of(subs(10, huge)), nil, api.ErrNone)
+		checkRun(t, []api.Program{{step(9, 1, 0, 0, 0)}}, 0, of(subs(10, huge)), nil, api.ErrKind)
+	}
+	// But a record that is too much by itself is wrong, and told in turn.
+	most := withUnknown(of(), api.Record{Number: 3, How: api.Sized, Bytes: make([]byte, api.MaxBytes+1)})
+	fails(t, a, withUnknown(of(subs(13, most, deep)), api.Record{}), api.ErrMuch)
+	fails(t, a, of(subs(13, deep, most)), api.ErrDeep)
 }
 
 // Made once, or looked up each time: both write the same.
@@ -359,11 +407,9 @@ func TestF2RunOfBodiesOfOtherMessages(t *testing.T) {
 				v.Bits, v.Number = append(v.Bits, r.Uint64()>>r.Intn(64)), r.Intn(32)
 			}
 		}
-		if r.Intn(10) == 0 {
-			x.Unknown = append(x.Unknown, api.Record{Number: r.Intn(2), How: r.Intn(8), Bits: r.Uint64() >> r.Intn(64)})
-		}
+		spoil(r, &x)
 		p := r.Intn(len(l))
-		want, err := modelled(l, p, x, 1)
+		want, err := modelled(l, p, x)
 		checkRun(t, l, p, x, want, err)
 		told[err]++
 		if t.Failed() {
@@ -377,8 +423,70 @@ func TestF2RunOfBodiesOfOtherMessages(t *testing.T) {
 	}
 }
 
-// modelled is what Run should answer, told by the plainest means: byte by byte, with the document's numbers.
-func modelled(l []api.Program, p int, x api.Body, depth int) ([]byte, api.Errno) {
+// spoil has x now and then have a record that is wrong.
+func spoil(r *rand.Rand, x *api.Body) {
+	if r.Intn(10) == 0 {
+		x.Unknown = append(x.Unknown, api.Record{Number: r.Intn(2), How: r.Intn(8), Bits: r.Uint64() >> r.Intn(64)})
+	}
+}
+
+// anyTree is a body of A with Subs, in which here and there is much, or too much, or what is wrong.
+func anyTree(r *rand.Rand, deep int) api.Body {
+	var x api.Body
+	if r.Intn(8) == 0 {
+		x.Values = append(x.Values, texts(9, long(r.Intn(2*api.MaxBytes))))
+	}
+	for _, number := range []int{10, 13, 22} {
+		var l []api.Body
+		for range r.Intn(3) {
+			if deep > 1 {
+				l = append(l, anyTree(r, deep-1))
+			} else if r.Intn(30) == 0 {
+				l = append(l, nested(10, api.MaxDeep, of()))
+			}
+		}
+		x.Values = append(x.Values, subs(number, l...))
+	}
+	if r.Intn(20) == 0 {
+		x.Unknown = append(x.Unknown, api.Record{Number: 99, How: api.Sized, Bytes: make([]byte, r.Intn(api.MaxBytes+50))})
+	}
+	if r.Intn(4) == 0 {
+		spoil(r, &x)
+	}
+	return x
+}
+
+// Whichever errors there are, and wherever.
+func TestF2RunTellsTheFirstError(t *testing.T) {
+	r := rand.New(rand.NewSource(5))
+	told := make(map[api.Errno]int)
+	for range 2000 {
+		x := anyTree(r, r.Intn(3)+1)
+		want, err := modelled(programs, 0, x)
+		checkRun(t, programs, 0, x, want, err)
+		told[err]++
+		if t.Failed() {
+			return
+		}
+	}
+	for _, err := range []api.Errno{api.OK, api.ErrKind, api.ErrRange, api.ErrMuch, api.ErrDeep} {
+		if told[err] < 20 {
+			t.Errorf("error %d was told %d times only: %v", err, told[err], told)
+		}
+	}
+}
+
+// modelled is what Run of right programs should answer, told by the plainest means: byte by byte, with the document's numbers.
+func modelled(l []api.Program, p int, x api.Body) ([]byte, api.Errno) {
+	b, err := all(l, p, x, 1)
+	if len(b) > 4000 {
+		return nil, api.ErrMuch
+	}
+	return b, err
+}
+
+// all is what program p makes of x, however much that is.
+func all(l []api.Program, p int, x api.Body, depth int) ([]byte, api.Errno) {
 	if depth > 12 {
 		return nil, api.ErrDeep
 	}
@@ -393,18 +501,18 @@ func modelled(l []api.Program, p int, x api.Body, depth int) ([]byte, api.Errno)
 			out.numbers(s, v.Bits)
 			continue
 		}
-		all := v.Bytes
+		blobs := v.Bytes
 		if s.Kind == api.StepSub {
-			all = nil
+			blobs = nil
 			for _, sub := range v.Subs {
-				b, err := modelled(l, s.Next, sub, depth+1)
+				b, err := all(l, s.Next, sub, depth+1)
 				if err != api.OK {
 					return nil, err
 				}
-				all = append(all, b)
+				blobs = append(blobs, b)
 			}
 		}
-		for _, b := range all {
+		for _, b := range blobs {
 			out.blob(s.Number, b)
 		}
 	}
@@ -412,9 +520,6 @@ func modelled(l []api.Program, p int, x api.Body, depth int) ([]byte, api.Errno)
 		if err := out.record(r); err != api.OK {
 			return nil, err
 		}
-	}
-	if len(out) > 4000 {
-		return nil, api.ErrMuch
 	}
 	return out, api.OK
 }
